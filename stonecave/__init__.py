@@ -1,0 +1,1 @@
+"""Stonecave: a small game of earth, stones, gems and monsters, asked by lists of whole numbers."""
