@@ -1,6 +1,6 @@
 """A cave, its text, and what is at fault with a text."""
 
-from stonecave.things import FALLING_GEM, LYING_GEM, PLAYER, WALL, byte_of, is_known_byte, thing_of
+from stonecave.things import FALLING_GEM, LYING_GEM, PLAYER, WALL, byte_of, count_kinds, is_known_byte, thing_of
 
 ROW_END = 10
 MOST_IN_A_ROW = 20
@@ -35,12 +35,41 @@ def row_begin(cave, down):
     return (down + 1) * stride(cave) + 1
 
 
+# Without the rim.
+def row_of(cave, down):
+    begin = row_begin(cave, down)
+    return cave.places[begin:begin + cave.wide]
+
+
+def is_within(cave, across, down):
+    return across < cave.wide and down < cave.high
+
+
+# Asked of a place within the cave alone.
+def thing_at(cave, across, down):
+    return cave.places[row_begin(cave, down) + across]
+
+
 def copy_cave(cave):
     return Cave(cave.wide, cave.high, list(cave.places))
 
 
+# The size is asked too: the rim of one cave may be alike to what's in another that is as large.
+def are_same_caves(cave, other):
+    return cave.wide == other.wide and cave.high == other.high and cave.places == other.places
+
+
 def count_gems(cave):
     return cave.places.count(LYING_GEM) + cave.places.count(FALLING_GEM)
+
+
+# Counted row by row, as the rim is none of the cave's wall.
+def count_things(cave):
+    counts = [0] * count_kinds()
+    for down in range(cave.high):
+        for thing in row_of(cave, down):
+            counts[thing] += 1
+    return counts
 
 
 def split_rows(text):
@@ -103,7 +132,6 @@ def read_cave(text):
 def write_cave(cave):
     text = []
     for down in range(cave.high):
-        begin = row_begin(cave, down)
-        text.extend([byte_of(thing) for thing in cave.places[begin:begin + cave.wide]])
+        text.extend([byte_of(thing) for thing in row_of(cave, down)])
         text.append(ROW_END)
     return text

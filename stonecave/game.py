@@ -3,9 +3,9 @@
 from stonecave.session import Session, answer_call
 
 # The calls that are handed a row, with its length before it.
-ROW_CALLS = (0,)
+ROW_CALLS = (0, 11)
 # How many numbers each of the other calls is handed.
-GIVEN_COUNTS = {1: 1, 2: 1, 3: 1, 4: 1, 5: 1, 6: 0}
+GIVEN_COUNTS = {1: 1, 2: 1, 3: 1, 4: 1, 5: 1, 6: 0, 7: 2, 8: 1, 9: 1, 10: 0, 12: 0, 13: 1}
 
 
 def given_begin(calls, at):

@@ -1,7 +1,8 @@
 """A line of calls: its game, its kept games, and what each call answers."""
 
-from stonecave.cave import find_fault, read_cave, write_cave
-from stonecave.record import Game, copy_game, count_ticks, how_it_stands, press
+from stonecave.cave import count_things, find_fault, is_within, read_cave, thing_at, write_cave
+from stonecave.record import Game, copy_game, count_ticks, find_parting, go_back, how_it_stands, how_it_stood
+from stonecave.record import press, standing_behind, standing_now
 from stonecave.tick import is_over
 
 FIRST_TEXT = (35, 35, 35, 10, 35, 64, 35, 10, 35, 35, 35, 10)
@@ -13,12 +14,14 @@ MOST_KEY = 4
 MOST_FRAME_PARTS = 1000
 MOST_TICK_PARTS = 100
 MOST_TICKS = 400
+MOST_PRESSED = 100
 LAST_WHERE = 9
 
 # The refusals, without their sign.
 BEYOND_BOUNDS = 1
 NOT_THERE = 2
 TOO_MANY_TICKS = 5
+ALIKE = 6
 FAULT = 10
 
 
@@ -26,6 +29,10 @@ class Session:
     def __init__(self):
         self.game = Game(read_cave(list(FIRST_TEXT)), FIRST_TICK_PARTS)
         self.kept = {}
+
+
+def cave_now(session):
+    return standing_now(session.game).cave
 
 
 def refuse(number):
@@ -54,7 +61,7 @@ def answer_hold(session, given):
 
 # Counted by the ticks that are asked for, though the game may be over before they are through.
 def are_too_many(game, ticks):
-    return not is_over(game.now) and count_ticks(game) + ticks > MOST_TICKS
+    return not is_over(standing_now(game)) and count_ticks(game) + ticks > MOST_TICKS
 
 
 def answer_frame(session, given):
@@ -100,13 +107,70 @@ def answer_load(session, given):
     return how_it_stands(session.game) + [session.game.left_over]
 
 
-def answer_shows(session, given):
-    text = write_cave(session.game.now.cave)
+# A cave's text with how many bytes it has ahead of it.
+def counted_text(cave):
+    text = write_cave(cave)
     return [len(text)] + text
 
 
+def answer_shows(session, given):
+    return counted_text(cave_now(session))
+
+
+def answer_place(session, given):
+    across = given[0]
+    down = given[1]
+    cave = cave_now(session)
+    if not is_within(cave, across, down):
+        return refuse(NOT_THERE)
+    return [thing_at(cave, across, down)]
+
+
+def answer_seen(session, given):
+    ticks = given[0]
+    if ticks > count_ticks(session.game):
+        return refuse(NOT_THERE)
+    return how_it_stood(session.game, ticks) + counted_text(standing_behind(session.game, ticks).cave)
+
+
+def answer_back(session, given):
+    ticks = given[0]
+    if ticks > count_ticks(session.game):
+        return refuse(NOT_THERE)
+    go_back(session.game, ticks)
+    return how_it_stands(session.game)
+
+
+def answer_keys(session, given):
+    return [count_ticks(session.game)] + session.game.pressed
+
+
+def answer_play(session, pressed):
+    game = session.game
+    if len(pressed) > MOST_PRESSED or any([key > MOST_KEY for key in pressed]):
+        return refuse(BEYOND_BOUNDS)
+    if are_too_many(game, len(pressed)):
+        return refuse(TOO_MANY_TICKS)
+    for key in pressed:
+        press(game, key)
+    return how_it_stands(game)
+
+
+def answer_counts(session, given):
+    return count_things(cave_now(session))
+
+
+def answer_differ(session, given):
+    where = given[0]
+    if where not in session.kept:
+        return refuse(NOT_THERE)
+    parting = find_parting(session.game, session.kept[where])
+    return refuse(ALIKE) if parting is None else [parting]
+
+
 # A call's function stands where the call's number tells.
-CALLS = (answer_cave, answer_hold, answer_frame, answer_speed, answer_save, answer_load, answer_shows)
+CALLS = (answer_cave, answer_hold, answer_frame, answer_speed, answer_save, answer_load, answer_shows,
+         answer_place, answer_seen, answer_back, answer_keys, answer_play, answer_counts, answer_differ)
 
 
 def answer_call(session, number, given):

@@ -32,6 +32,10 @@ def thing_of(byte):
     return found[0]
 
 
+def count_kinds():
+    return len(BYTES)
+
+
 def is_lying(thing):
     return thing == LYING_STONE or thing == LYING_GEM
 

@@ -1,6 +1,6 @@
 """How a cave stands, and what a tick does to it."""
 
-from stonecave.cave import copy_cave, count_gems, row_begin, steps
+from stonecave.cave import are_same_caves, copy_cave, count_gems, row_begin, steps
 from stonecave.things import EARTH, LYING_GEM, LYING_STONE, MONSTER_RIGHT, NOTHING, PLAYER, WAY_OUT
 from stonecave.things import falling, is_falling, is_gem, is_lying, is_monster, lying
 
@@ -39,6 +39,12 @@ def copy_standing(standing):
     twin.outcome = standing.outcome
     twin.points = standing.points
     return twin
+
+
+def stand_alike(standing, other):
+    if standing.outcome != other.outcome or standing.points != other.points:
+        return False
+    return are_same_caves(standing.cave, other.cave)
 
 
 def is_over(standing):

@@ -1,8 +1,14 @@
 """Calls as they are handed in, and answers taken apart again."""
 
+import random
+
 from stonecave.game import answers
 
+MOST_CALLS = 40
 LOOKS = ">v<^"
+STONES = "oO"
+GEMS = "*+"
+DRAWN_SIGNS = "      :::#ooO**+>v<^E"
 
 
 def bytes_of(rows):
@@ -41,8 +47,38 @@ def shows():
     return [6]
 
 
+def place(across, down):
+    return [7, across, down]
+
+
+def seen(tick):
+    return [8, tick]
+
+
+def back(tick):
+    return [9, tick]
+
+
+def keys():
+    return [10]
+
+
+def play(*pressed):
+    return [11, len(pressed)] + list(pressed)
+
+
+def counts():
+    return [12]
+
+
+def differ(where):
+    return [13, where]
+
+
 def ask(*calls):
     """What each call answers, a list a call."""
+    if not 1 <= len(calls) <= MOST_CALLS:
+        raise AssertionError("no line has so many calls: %d" % len(calls))
     told = answers([number for call in calls for number in call])
     apart = []
     at = 0
@@ -98,3 +134,36 @@ def all_turns(rows, goal):
         pairs.append((turn, rows, goal))
         rows, goal = turned(rows), turned(goal)
     return pairs
+
+
+# All that a game and the kept ones are: how it stands, what's left over, what was pressed, and then, from its
+# beginning on, the cave as it was read, what's held down and how long a tick takes.
+PROBE = [frame(0), shows(), keys(), counts(), back(0), shows(), frame(97), keys()]
+for kept in (0, 1, 9):
+    PROBE += [load(kept), shows(), keys(), back(0), frame(97), keys()]
+
+
+def probe(before, calls=()):
+    """All that is there behind these calls; of those before them no more than that they were."""
+    return ask(*before, *calls, *PROBE)[len(before) + len(calls):]
+
+
+def draw_cave(draw):
+    wide, high = draw.randint(1, 10), draw.randint(1, 8)
+    signs = [draw.choice(DRAWN_SIGNS) for drawn in range(wide * high)]
+    signs[draw.randrange(len(signs))] = "@"
+    return ["".join(signs[begin:begin + wide]) for begin in range(0, len(signs), wide)]
+
+
+def draw_keys(draw):
+    return [draw.randint(0, 4) for tick in range(12)]
+
+
+def games(how_many):
+    """Caves and keys, drawn alike each time."""
+    draw = random.Random(2024)
+    return [(draw_cave(draw), draw_keys(draw)) for game in range(how_many)]
+
+
+def count(rows, signs):
+    return sum(row.count(sign) for row in rows for sign in signs)

@@ -1,7 +1,7 @@
 import unittest
 
 from stonecave.cave import read_cave, write_cave
-from stonecave.record import Game, copy_game, press
+from stonecave.record import Game, copy_game, press, standing_behind, standing_now
 from tests.helper import bytes_of
 
 TEXT = bytes_of(["@*: ", "#o  ", "#  >"])
@@ -14,8 +14,8 @@ class WhatAGameIs(unittest.TestCase):
     def test_the_cave_stays_as_it_was_read(self):
         for key in (1, 1, 2):
             press(self.game, key)
-        self.assertEqual(write_cave(self.game.as_read), TEXT)
-        self.assertNotEqual(write_cave(self.game.now.cave), TEXT)
+        self.assertEqual(write_cave(standing_behind(self.game, 0).cave), TEXT)
+        self.assertNotEqual(write_cave(standing_now(self.game).cave), TEXT)
 
     def test_what_was_pressed_at_each_tick(self):
         for key in (1, 0, 4, 2):
@@ -33,13 +33,13 @@ class WhatAGameIs(unittest.TestCase):
         self.game.held = 2
         press(self.game, 1)
         twin = copy_game(self.game)
-        shown = write_cave(twin.now.cave)
+        shown = write_cave(standing_now(twin).cave)
         press(self.game, 1)
         self.assertEqual((twin.left_over, twin.held, twin.tick_parts), (3, 2, 7))
         self.assertEqual(twin.pressed, [1])
-        self.assertEqual((twin.now.outcome, twin.now.points), (0, 10))
-        self.assertEqual(write_cave(twin.now.cave), shown)
-        self.assertEqual(write_cave(twin.as_read), TEXT)
+        self.assertEqual((standing_now(twin).outcome, standing_now(twin).points), (0, 10))
+        self.assertEqual(write_cave(standing_now(twin).cave), shown)
+        self.assertEqual(write_cave(standing_behind(twin, 0).cave), TEXT)
 
 
 if __name__ == "__main__":

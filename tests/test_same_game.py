@@ -1,34 +1,8 @@
 """What holds of every game, tried in many caves that are drawn alike each time."""
 
-import random
 import unittest
 
-from tests.helper import ask, cave, frame, hold, load, picture, save, shows, speed
-
-STONES = "oO"
-GEMS = "*+"
-MONSTERS = ">v<^"
-SIGNS = "      :::#ooO**+>v<^E"
-
-
-def draw_cave(draw):
-    wide, high = draw.randint(1, 10), draw.randint(1, 8)
-    signs = [draw.choice(SIGNS) for place in range(wide * high)]
-    signs[draw.randrange(len(signs))] = "@"
-    return ["".join(signs[begin:begin + wide]) for begin in range(0, len(signs), wide)]
-
-
-def draw_keys(draw):
-    return [draw.randint(0, 4) for tick in range(12)]
-
-
-def games(count):
-    draw = random.Random(2024)
-    return [(draw_cave(draw), draw_keys(draw)) for game in range(count)]
-
-
-def count(rows, signs):
-    return sum(row.count(sign) for row in rows for sign in signs)
+from tests.helper import GEMS, LOOKS, STONES, ask, cave, count, frame, games, hold, load, picture, save, shows, speed
 
 
 class EveryGame(unittest.TestCase):
@@ -48,7 +22,7 @@ class EveryGame(unittest.TestCase):
     def test_gems_come_of_monsters_and_go_to_the_player(self):
         for rows, keys in games(300):
             for shown, now in self.steps(rows, keys):
-                hit = count(rows, MONSTERS) - count(shown, MONSTERS)
+                hit = count(rows, LOOKS) - count(shown, LOOKS)
                 taken = count(rows, GEMS) + hit - count(shown, GEMS)
                 self.assertGreaterEqual(hit, 0)
                 self.assertGreaterEqual(taken, 0)
@@ -108,7 +82,7 @@ class Drawn(unittest.TestCase):
         for rows, keys in games(300):
             shown, now = EveryGame().steps(rows, keys)[-1]
             outcomes[now[0]] = outcomes.get(now[0], 0) + 1
-            hits += count(rows, MONSTERS) - count(shown, MONSTERS)
+            hits += count(rows, LOOKS) - count(shown, LOOKS)
         self.assertEqual(sorted(outcomes), [0, 1, 2])
         self.assertGreater(hits, 5)
 
